@@ -16,6 +16,7 @@ func full() api.Format {
 // P1.6: TestWays: orders of games, by numbers that can be counted by hand.
 func TestWays(t *testing.T) {
 	long := api.Format{Sets: 2, Games: 1, Tie: -1, To: 7, LastTie: -1, LastTo: 7}
+	four := api.Format{Sets: 2, Games: 4, Tie: -1, To: 7, LastTie: -1, LastTo: 7}
 	for i, x := range []struct {
 		f    api.Format
 		sets []api.Pair
@@ -38,6 +39,8 @@ func TestWays(t *testing.T) {
 		{long, []api.Pair{pair(40, 38), pair(1, 3)}, 1 << 39, api.OK},
 		{long, []api.Pair{pair(40, 38), pair(2, 4)}, 0, api.ErrMany},
 		{long, []api.Pair{pair(40, 38), pair(38, 40), pair(40, 38)}, 0, api.ErrMany},
+		{four, []api.Pair{pair(4, 0), pair(38, 40)}, 20 << 35, api.OK},
+		{four, []api.Pair{pair(4, 1), pair(38, 40)}, 0, api.ErrMany},
 		{short(), []api.Pair{pair(2, 1)}, 0, api.ErrBoard},
 		{short(), []api.Pair{pair(0, 0)}, 0, api.ErrBoard},
 		{short(), []api.Pair{pair(2, 0), pair(0, 2), pair(2, 0)}, 0, api.ErrBoard},
